@@ -1,0 +1,1 @@
+"""Clocks that are compared: clocksroom.room.answers is the way in."""
