@@ -58,9 +58,14 @@ def clock_row(rates, base, events):
     return [clock_bound(rates, base, other) for other in events]
 
 
+def own_clock_bounds(rates, events):
+    """What the clocks tell by themselves of each two events."""
+    return [clock_row(rates, base, events) for base in events]
+
+
 def clock_table(rates, events):
     """The table by the clocks alone."""
-    table = [clock_row(rates, base, events) for base in events]
+    table = own_clock_bounds(rates, events)
     # A bound of 0 from an event to itself adds nothing but the ways that lead through it.
     for k in range(len(events)):
         table = with_bound(table, k, k, 0)
@@ -75,16 +80,50 @@ def least_later(table, base, other):
     return -back
 
 
+def surely_before(table, base, other):
+    """Whether the base event is before the other one, whatever the true times."""
+    back = table[other][base]
+    return back is not None and back < 0
+
+
+def surely_at_once(table, base, other):
+    """Whether the two events are at one true time, whatever it is."""
+    return table[base][other] == 0 and table[other][base] == 0
+
+
+def bound_fits(table, base, other, most):
+    """Whether the other event can be at most so much later than the base one; None is no bound and fits."""
+    whole = bound_sum(table[other][base], most)
+    return whole is None or whole >= 0
+
+
+def least_fits(table, signal):
+    """Whether the signal can have been on its way for its least or longer."""
+    return bound_fits(table, signal.second, signal.first, -signal.least)
+
+
 def signal_fits(table, signal):
     """Whether the signal can have been so long on its way by the table."""
-    greatest = table[signal.first][signal.second]
-    if greatest is not None and greatest < signal.least:
-        return False
-    least = least_later(table, signal.first, signal.second)
-    return least is None or least <= signal.most
+    return least_fits(table, signal) and bound_fits(table, signal.first, signal.second, signal.most)
 
 
 def with_signal(table, signal):
     """The table when the signal, which fits it, is believed."""
     ahead = with_bound(table, signal.first, signal.second, signal.most)
     return with_bound(ahead, signal.second, signal.first, -signal.least)
+
+
+def bounds_at(rates, events, extra, place):
+    """What the clocks tell if the extra event is at the place of one of the events: (base, other, most)."""
+    ahead = [(place, k, clock_bound(rates, extra, events[k])) for k in range(len(events))]
+    back = [(k, place, clock_bound(rates, events[k], extra)) for k in range(len(events))]
+    return ahead + back
+
+
+def bounds_fit(table, told):
+    """Whether all bounds that are told fit the table, each with those before it."""
+    for base, other, most in told:
+        if not bound_fits(table, base, other, most):
+            return False
+        table = with_bound(table, base, other, most)
+    return True

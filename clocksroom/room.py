@@ -3,7 +3,9 @@
 Each call's function gives back its answer as a list of numbers; a refusal is a number below 0 alone.
 """
 
-from clocksroom.bounds import clock_table, least_later, signal_fits, with_signal
+from clocksroom.bounds import bounds_at, bounds_fit, clock_table, least_fits, least_later, signal_fits
+from clocksroom.bounds import surely_at_once, surely_before, with_signal
+from clocksroom.rows import bound_row, own_bounds
 
 MOST_CLOCKS = 6
 MOST_RATE = 999999
@@ -18,9 +20,15 @@ SET = 2
 SIGNAL = 3
 STRIKE = 4
 BELIEVED = 5
+BETWEEN = 6
+ORDER = 7
+REASON = 8
+AGAINST = 9
+COULD = 10
+OF = 11
 
 # How many whole numbers stand behind each call's number; of begins it is the length of its row alone.
-WIDTHS = (1, 2, 3, 4, 1, 0, 2)
+WIDTHS = (1, 2, 3, 4, 1, 0, 2, 2, 2, 1, 4, 1, 1)
 
 
 class Event:
@@ -68,6 +76,9 @@ class Room:
     def has_event(self, number):
         return number < len(self.events)
 
+    def has_both(self, one, other):
+        return self.has_event(one) and self.has_event(other)
+
 
 class Belief:
     """The numbers of the believed signals, and the table of bounds by them."""
@@ -77,15 +88,27 @@ class Belief:
         self.table = table
 
 
-def belief_of(room):
-    """What is believed in the room: each signal is judged by those believed before it."""
+def belief_before(room, end):
+    """What is believed of the signals before that number: each is judged by those believed before it."""
     table = clock_table(room.rates, room.events)
     numbers = []
-    for number, signal in enumerate(room.signals):
+    for number, signal in enumerate(room.signals[:end]):
         if not signal.struck and signal_fits(table, signal):
             table = with_signal(table, signal)
             numbers.append(number)
     return Belief(numbers, table)
+
+
+def belief_of(room):
+    """What is believed in the room."""
+    return belief_before(room, len(room.signals))
+
+
+def row_by(room, belief, start, end):
+    """The row of the greatest that the end is later than the start, by what is believed."""
+    signals = [room.signals[number] for number in belief.numbers]
+    own = own_bounds(room.rates, room.events, signals)
+    return bound_row(own, belief.table, start, end)
 
 
 def begin(room, rates):
@@ -134,7 +157,7 @@ def set_clock(room, clock, showed, told):
 
 
 def tell_signal(room, first, second, least, most):
-    if not room.has_event(first) or not room.has_event(second) or first == second:
+    if not room.has_both(first, second) or first == second:
         return [-1]
     if most < least or most > MOST_ON_WAY:
         return [-1]
@@ -145,13 +168,20 @@ def tell_signal(room, first, second, least, most):
     return [number]
 
 
-def strike(room, number):
+def signal_refusal(room, number):
+    """What is answered to a call on a signal that isn't there or is struck; None to one on another."""
     if number >= len(room.signals):
         return [-2]
-    signal = room.signals[number]
-    if signal.struck:
+    if room.signals[number].struck:
         return [-4]
-    signal.struck = True
+    return None
+
+
+def strike(room, number):
+    refusal = signal_refusal(room, number)
+    if refusal is not None:
+        return refusal
+    room.signals[number].struck = True
     return [0]
 
 
@@ -167,16 +197,81 @@ def bound_list(bound):
     return with_length([bound])
 
 
-def tell_believed(room):
-    numbers = belief_of(room).numbers
+def counted(numbers):
+    """A whole answer: how many, then they as a list."""
     return [len(numbers)] + with_length(numbers)
 
 
+def tell_believed(room):
+    return counted(belief_of(room).numbers)
+
+
 def tell_between(room, base, other):
-    if not room.has_event(base) or not room.has_event(other):
+    if not room.has_both(base, other):
         return [-1]
     table = belief_of(room).table
     return [0] + bound_list(least_later(table, base, other)) + bound_list(table[base][other])
+
+
+def tell_order(room, base, other):
+    if not room.has_both(base, other):
+        return [-1]
+    table = belief_of(room).table
+    if surely_before(table, base, other):
+        return [1]
+    if surely_before(table, other, base):
+        return [2]
+    if surely_at_once(table, base, other):
+        return [3]
+    return [0]
+
+
+def tell_reason(room, base, other):
+    if not room.has_both(base, other):
+        return [-1]
+    belief = belief_of(room)
+    if belief.table[base][other] is None:
+        return [-6]
+    row = row_by(room, belief, base, other)
+    return [len(row) - 1] + with_length(row)
+
+
+def tell_against(room, number):
+    refusal = signal_refusal(room, number)
+    if refusal is not None:
+        return refusal
+    signal = room.signals[number]
+    belief = belief_before(room, number)
+    if signal_fits(belief.table, signal):
+        return [0]
+    if not least_fits(belief.table, signal):
+        return [1] + with_length(row_by(room, belief, signal.first, signal.second))
+    return [2] + with_length(row_by(room, belief, signal.second, signal.first))
+
+
+def tell_could(room, place, clock, era, reading):
+    if not room.has_event(place) or not room.has_clock(clock):
+        return [-1]
+    if era > room.eras[clock] or reading > MOST_READING:
+        return [-1]
+    extra = Event(clock, era, reading, len(room.events))
+    if bounds_fit(belief_of(room).table, bounds_at(room.rates, room.events, extra, place)):
+        return [1]
+    return [0]
+
+
+def tell_of(room, clock):
+    if not room.has_clock(clock):
+        return [-1]
+    # A clock's eras only rise, so that its events by their numbers are era by era already.
+    return counted([number for number, event in enumerate(room.events) if event.clock == clock])
+
+
+def tell_once(room, base):
+    if not room.has_event(base):
+        return [-1]
+    table = belief_of(room).table
+    return counted([other for other in range(len(room.events)) if surely_at_once(table, base, other)])
 
 
 def answer_to(room, call):
@@ -194,8 +289,20 @@ def answer_to(room, call):
         return strike(room, call[1])
     if kind == BELIEVED:
         return tell_believed(room)
-    # Only between is left: WIDTHS knows of no call behind it.
-    return tell_between(room, call[1], call[2])
+    if kind == BETWEEN:
+        return tell_between(room, call[1], call[2])
+    if kind == ORDER:
+        return tell_order(room, call[1], call[2])
+    if kind == REASON:
+        return tell_reason(room, call[1], call[2])
+    if kind == AGAINST:
+        return tell_against(room, call[1])
+    if kind == COULD:
+        return tell_could(room, call[1], call[2], call[3], call[4])
+    if kind == OF:
+        return tell_of(room, call[1])
+    # Only once is left: WIDTHS knows of no call behind it.
+    return tell_once(room, call[1])
 
 
 def call_length(calls, at):

@@ -1,7 +1,8 @@
 import unittest
 
 from clocksroom.room import Event, Room, tell_between
-from tests.lines import Slow, ask, begins, believed, between, bounds, event, last, listed, set_to, signal, strike
+from tests.lines import (
+    Numbers, Slow, ask, begins, believed, between, bounds, event, fill, last, listed, set_to, signal, strike)
 
 
 class Between(unittest.TestCase):
@@ -128,52 +129,8 @@ class Between(unittest.TestCase):
         self.assertEqual(given[3], given[5])
 
 
-class Numbers:
-    """Numbers in a row that look like chance and are the same every time."""
-
-    def __init__(self, seed):
-        self.state = seed
-
-    def below(self, most):
-        self.state = (self.state * 6364136223846793005 + 1442695040888963407) % 2 ** 64
-        return (self.state >> 33) % most
-
-
-def fill(numbers, slow, calls):
-    """Events, settings, signals and strikes, told to both."""
-    for k in range(numbers.below(20) + 4):
-        which = numbers.below(10)
-        count = len(slow.events)
-        clock = numbers.below(len(slow.rates))
-        reached = [r for c, e, r in slow.events if c == clock and e == slow.eras[clock]]
-        begun = reached[0] if reached and slow.eras[clock] else 0
-        if which < 4 and count < 24:
-            reading = begun + numbers.below(6)
-            slow.event(clock, reading)
-            calls.append(event(clock, reading))
-        elif which < 5 and count < 23:
-            showed = max(reached, default=0) + numbers.below(3)
-            told = numbers.below(9)
-            slow.set_to(clock, showed, told)
-            calls.append(set_to(clock, showed, told))
-        elif which < 9 and count > 1:
-            start = numbers.below(count)
-            end = (start + 1 + numbers.below(count - 1)) % count
-            least = numbers.below(4) * 500000
-            most = least + numbers.below(3) * 700000
-            slow.signals.append([start, end, least, most, False])
-            calls.append(signal(start, end, least, most))
-        elif which == 9 and slow.signals:
-            number = numbers.below(len(slow.signals))
-            if not slow.signals[number][4]:
-                slow.signals[number][4] = True
-                calls.append(strike(number))
-
-
 class BySlowWay(unittest.TestCase):
     """The same room gone through by the document's own words: bounds are met by some true times."""
-
-    FAR = 10 ** 18
 
     def check(self, seed):
         numbers = Numbers(seed)
@@ -186,12 +143,9 @@ class BySlowWay(unittest.TestCase):
         count = len(slow.events)
         for i in range(count):
             given = ask(*calls, *[between(i, j) for j in range(count)])[len(calls):]
-            times = slow.latest(held, i, self.FAR)
             for j in range(count):
-                greatest = times[j] if times[j] < self.FAR // 2 else None
-                back = slow.latest(held, j, self.FAR)[i]
-                least = -back if back < self.FAR // 2 else None
-                self.assertEqual(given[j], bounds(least, greatest), (seed, i, j))
+                expected = bounds(slow.least(held, i, j), slow.greatest(held, i, j))
+                self.assertEqual(given[j], expected, (seed, i, j))
         return len(known), len(slow.signals)
 
     def test_many_rooms(self):

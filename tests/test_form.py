@@ -3,13 +3,18 @@ import io
 import unittest
 
 from clocksroom.room import answers
-from tests.lines import begins, believed, between, event, set_to, signal, strike
+from tests.lines import (
+    against, begins, believed, between, could, event, of, once, order, reason, set_to, signal, strike)
 
 LINE = (begins(0, 100) + event(0, 5) + event(1, 7) + between(0, 1) + signal(0, 1, 5, 10) + between(0, 1)
-        + believed() + set_to(0, 9, 3) + strike(0) + strike(0) + strike(1) + event(0, 2))
+        + believed() + set_to(0, 9, 3) + order(0, 1) + reason(1, 3) + signal(1, 0, 5, 10) + against(1) + against(0)
+        + could(0, 0, 0, 5) + could(0, 0, 1, 5) + of(0) + once(2) + strike(0) + strike(0) + strike(2) + event(0, 2)
+        + order(0, 4) + reason(0, 4) + reason(0, 1) + against(0) + against(2) + could(0, 0, 2, 5) + of(2) + once(4))
 ANSWERS = [
     1, 0, 1, 0, 1, 1, 3, 0, 0, 0, 1, 0, 5, 0, 1, 5, 1, 10,
-    3, 1, 1, 0, 1, 2, 1, 0, 1, -4, 1, -2, 1, -6]
+    3, 1, 1, 0, 1, 2, 1, 1, 6, 3, 4, 1, 0, 2, 3, 1, 1, 4, 1, 2, 1, 0, 1, 0,
+    1, 1, 1, 0, 5, 3, 3, 0, 2, 3, 4, 2, 2, 2, 3, 1, 0, 1, -4, 1, -2, 1, -6,
+    1, -1, 1, -1, 4, 1, 2, 0, 1, 1, -4, 1, -2, 1, -1, 1, -1, 1, -1]
 
 
 class Form(unittest.TestCase):
@@ -19,7 +24,10 @@ class Form(unittest.TestCase):
     def test_one_call(self):
         self.assertEqual(answers([5]), [2, 0, 0])
         self.assertEqual(answers([0, 0]), [1, -1])
-        self.assertEqual(answers([6, 0, 0]), [1, -1])
+        for call in ([6, 0, 0], [7, 0, 0], [8, 0, 0], [10, 0, 0, 0, 0], [11, 1], [12, 0]):
+            self.assertEqual(answers(call), [1, -1])
+        self.assertEqual(answers([9, 0]), [1, -2])
+        self.assertEqual(answers([11, 0]), [2, 0, 0])
 
     def test_the_call_behind_begins_is_found(self):
         for count in (0, 1, 6, 7, 60):
