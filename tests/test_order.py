@@ -56,7 +56,8 @@ class Order(unittest.TestCase):
         self.assertEqual(self.both(line, 0, 3), [3, 3])
 
     def test_by_way_of_others(self):
-        line = [begins(0, 0), event(0, 0), event(1, 5), event(1, 6), event(0, 1), signal(0, 1, 0, 9), signal(2, 3, 0, 9)]
+        line = [begins(0, 0), event(0, 0), event(1, 5), event(1, 6), event(0, 1), signal(0, 1, 0, 9),
+                signal(2, 3, 0, 9)]
         self.assertEqual(self.both(line, 0, 2), [1, 2])
         self.assertEqual(self.both(line, 1, 3), [1, 2])
 

@@ -87,18 +87,21 @@ class Reason(unittest.TestCase):
         self.assertEqual(last(*line, reason(23, 0)), row(*range(23, -1, -1)))
 
     def test_fewest_events_ahead_of_lesser_ones(self):
-        line = SIX + [signal(0, 1, 0, 4), signal(1, 2, 0, 4), signal(2, 5, 0, 2), signal(0, 4, 0, 3), signal(4, 5, 0, 7)]
+        line = SIX + [signal(0, 1, 0, 4), signal(1, 2, 0, 4), signal(2, 5, 0, 2), signal(0, 4, 0, 3),
+                      signal(4, 5, 0, 7)]
         self.assertEqual(last(*line, between(0, 5))[-1:], [10])
         self.assertEqual(last(*line, reason(0, 5)), row(0, 4, 5))
         self.assertEqual(last(*line, signal(0, 5, 0, 10), reason(0, 5)), row(0, 5))
         self.assertEqual(last(*line, signal(0, 5, 0, 11), reason(0, 5)), row(0, 4, 5))
 
     def test_the_least_sum_ahead_of_fewest_events(self):
-        line = SIX + [signal(0, 1, 0, 4), signal(1, 2, 0, 4), signal(2, 5, 0, 1), signal(0, 4, 0, 3), signal(4, 5, 0, 7)]
+        line = SIX + [signal(0, 1, 0, 4), signal(1, 2, 0, 4), signal(2, 5, 0, 1), signal(0, 4, 0, 3),
+                      signal(4, 5, 0, 7)]
         self.assertEqual(last(*line, reason(0, 5)), row(0, 1, 2, 5))
 
     def test_of_several_with_as_few_events_the_first(self):
-        line = SIX + [signal(0, 3, 0, 5), signal(3, 5, 0, 5), signal(0, 2, 0, 4), signal(2, 5, 0, 6), signal(0, 4, 0, 6),
+        line = SIX + [signal(0, 3, 0, 5), signal(3, 5, 0, 5), signal(0, 2, 0, 4), signal(2, 5, 0, 6),
+                      signal(0, 4, 0, 6),
                       signal(4, 5, 0, 4)]
         self.assertEqual(last(*line, reason(0, 5)), row(0, 2, 5))
         self.assertEqual(last(*line, strike(2), reason(0, 5)), row(0, 3, 5))
@@ -107,7 +110,8 @@ class Reason(unittest.TestCase):
         line = SIX + [signal(0, 2, 0, 5), signal(2, 3, 0, 5), signal(3, 5, 0, 5),
                       signal(0, 1, 0, 5), signal(1, 4, 0, 5), signal(4, 5, 0, 5)]
         self.assertEqual(last(*line, reason(0, 5)), row(0, 1, 4, 5))
-        line = SIX + [signal(0, 3, 0, 5), signal(3, 4, 0, 5), signal(3, 1, 0, 5), signal(4, 5, 0, 5), signal(1, 5, 0, 5)]
+        line = SIX + [signal(0, 3, 0, 5), signal(3, 4, 0, 5), signal(3, 1, 0, 5), signal(4, 5, 0, 5),
+                      signal(1, 5, 0, 5)]
         self.assertEqual(last(*line, reason(0, 5)), row(0, 3, 1, 5))
 
     def test_towards_the_lesser_number(self):

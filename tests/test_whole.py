@@ -115,7 +115,8 @@ class Whole(unittest.TestCase):
         far = 2000000000000
         calls = [begins(999999, 999999), event(0, 0), event(0, 1000000), event(1, 0), event(1, 1000000),
                  signal(1, 2, 1000000000000, 1000000000000), between(0, 3), between(3, 0), reason(0, 3), reason(3, 0),
-                 order(0, 3), order(3, 0), could(1, 1, 0, 0), could(2, 0, 0, 1000000), order(far, far), reason(far, far),
+                 order(0, 3), order(3, 0), could(1, 1, 0, 0), could(2, 0, 0, 1000000), order(far, far),
+                 reason(far, far),
                  against(far), could(far, far, far, far), of(far), once(far), strike(far), event(far, far)]
         self.compare(calls)
 
